@@ -1,0 +1,114 @@
+"""Some rules of LANGUAGE.md that can be read off the package's files, and where the interface is defined."""
+
+import ast
+import builtins
+import pathlib
+import unittest
+import warnings
+
+PACKAGE = pathlib.Path(__file__).resolve().parent.parent / "weavepull"
+
+INTERFACE = {
+    "errors.py": ("WeaveError", "BadLine", "BadText", "NoOutlet", "LetGo", "NoSource", "Over"),
+    "deeds.py": ("all_done", "all_hold", "folded"),
+    "lines.py": ("looked",),
+}
+
+# Those of L8 that the package may need; an addition is looked up there first.
+BUILTINS = (
+    "len", "range", "enumerate", "zip", "min", "max", "sum", "abs", "sorted", "reversed", "int", "str", "bool",
+    "list", "tuple", "dict", "set", "isinstance", "any", "all", "divmod", "super", "ValueError", "KeyError",
+)
+
+OUTSIDE = {"heapq", "math", "itertools", "collections"}
+
+
+def files():
+    """The package's files with their texts."""
+    return [(path, path.read_bytes().decode("utf-8")) for path in sorted(PACKAGE.glob("*.py"))]
+
+
+def trees():
+    return [(path, ast.parse(text)) for path, text in files()]
+
+
+class LanguageTests(unittest.TestCase):
+    def test_folder_contains_nothing_else(self):
+        others = [path.name for path in PACKAGE.iterdir() if path.suffix != ".py" and path.name != "__pycache__"]
+        self.assertEqual(others, [])
+        self.assertTrue((PACKAGE / "__init__.py").exists())
+
+    def test_size_and_characters(self):
+        for path, text in files():
+            self.assertLessEqual(len(text.splitlines()), 399, path)
+            for row, line in enumerate(text.split("\n"), 1):
+                self.assertLessEqual(len(line), 120, (path, row))
+                self.assertTrue(all(" " <= sign <= "~" for sign in line), (path, row))
+
+    def test_no_warning_of_python_itself(self):
+        with warnings.catch_warnings():
+            warnings.simplefilter("error")
+            for path, text in files():
+                compile(text, str(path), "exec")
+
+    def test_functions_are_small(self):
+        for path, tree in trees():
+            for node in ast.walk(tree):
+                if isinstance(node, ast.FunctionDef):
+                    self.assertLessEqual(node.end_lineno - node.lineno + 1, 40, (path, node.name))
+
+    def test_module_level(self):
+        plain = (ast.ImportFrom, ast.FunctionDef, ast.ClassDef, ast.Assign)
+        for path, tree in trees():
+            for at, node in enumerate(tree.body):
+                docstring = at == 0 and isinstance(node, ast.Expr) and isinstance(node.value, ast.Constant)
+                self.assertTrue(docstring or isinstance(node, plain), (path, node.lineno))
+                if isinstance(node, ast.Assign):
+                    calls = [part for part in ast.walk(node) if isinstance(part, ast.Call)]
+                    self.assertEqual(calls, [], (path, node.lineno))
+
+    def test_imports(self):
+        for path, tree in trees():
+            for node in ast.walk(tree):
+                self.assertNotIsInstance(node, ast.Import, path)
+                if isinstance(node, ast.ImportFrom):
+                    self.assertIn(node, tree.body, (path, node.lineno))
+                    self.assertEqual(node.level, 0, (path, node.lineno))
+                    if node.module not in OUTSIDE:
+                        self.defined_there(node, path)
+
+    def defined_there(self, node, path):
+        package, _, name = node.module.partition(".")
+        self.assertEqual(package, "weavepull", (path, node.lineno))
+        tree = ast.parse((PACKAGE / (name + ".py")).read_text())
+        for alias in node.names:
+            self.assertIn(alias.name, defined(tree), (path, node.lineno))
+
+    def test_builtins(self):
+        for path, tree in trees():
+            for node in ast.walk(tree):
+                if isinstance(node, ast.Name) and hasattr(builtins, node.id):
+                    self.assertIn(node.id, BUILTINS, (path, node.lineno))
+                    self.assertIsInstance(node.ctx, ast.Load, (path, node.lineno))
+
+    def test_interface_is_defined_in_its_files(self):
+        for name, words in INTERFACE.items():
+            tree = ast.parse((PACKAGE / name).read_text())
+            made = [node.name for node in tree.body if isinstance(node, (ast.FunctionDef, ast.ClassDef))]
+            for word in words:
+                self.assertIn(word, made, name)
+
+
+def defined(tree):
+    """The names that a file defines itself."""
+    names = []
+    for node in tree.body:
+        if isinstance(node, (ast.FunctionDef, ast.ClassDef)):
+            names.append(node.name)
+        if isinstance(node, ast.Assign):
+            names.extend(target.id for target in node.targets)
+    return names
+
+
+if __name__ == "__main__":
+    unittest.main()

@@ -1,0 +1,1 @@
+"""Weavepull: walks woven of walks, pulled one by one or pushed."""
