@@ -12,12 +12,28 @@ INTERFACE = {
     "errors.py": ("WeaveError", "BadLine", "BadText", "NoOutlet", "LetGo", "NoSource", "Over"),
     "deeds.py": ("all_done", "all_hold", "folded"),
     "lines.py": ("looked",),
+    "plain.py": ("plain",),
+    "weaving.py": ("Run",),
+    "needs.py": ("needs",),
+}
+
+METHODS = {
+    ("weaving.py", "Run"): {
+        "__init__": ["self", "weave", "outs", "lists"], "pull": ["self", "j"], "let_go": ["self", "j"],
+        "asked": ["self"], "gone": ["self"],
+    },
 }
 
 # Those of L8 that the package may need; an addition is looked up there first.
 BUILTINS = (
     "len", "range", "enumerate", "zip", "min", "max", "sum", "abs", "sorted", "reversed", "int", "str", "bool",
     "list", "tuple", "dict", "set", "isinstance", "any", "all", "divmod", "super", "ValueError", "KeyError",
+)
+
+# Names that L17 bars.
+BARRED = (
+    "type", "typing", "enum", "Enum", "Flag", "Generic", "Protocol", "ABC", "namedtuple", "register", "mro", "elements",
+    "open", "input", "law",
 )
 
 OUTSIDE = {"heapq", "math", "itertools", "collections"}
@@ -97,6 +113,42 @@ class LanguageTests(unittest.TestCase):
             made = [node.name for node in tree.body if isinstance(node, (ast.FunctionDef, ast.ClassDef))]
             for word in words:
                 self.assertIn(word, made, name)
+
+    def test_methods_are_defined_in_their_classes(self):
+        for (name, word), methods in METHODS.items():
+            tree = ast.parse((PACKAGE / name).read_text())
+            body = [node for node in tree.body if isinstance(node, ast.ClassDef) and node.name == word][0].body
+            made = [node for node in body if isinstance(node, ast.FunctionDef)]
+            found = {node.name: [arg.arg for arg in node.args.args] for node in made}
+            for method, arguments in methods.items():
+                self.assertEqual(found.get(method), arguments, (word, method))
+
+    def test_no_barred_names(self):
+        for path, tree in trees():
+            for node in ast.walk(tree):
+                for field in ("id", "attr", "arg", "name"):
+                    self.assertNotIn(getattr(node, field, None), BARRED, (path, node))
+
+    def test_no_name_is_a_method_and_an_attribute(self):
+        methods, attributes = set(), set()
+        for _, tree in trees():
+            for node in ast.walk(tree):
+                if isinstance(node, ast.ClassDef):
+                    methods.update(part.name for part in node.body if isinstance(part, ast.FunctionDef))
+                if isinstance(node, ast.Attribute) and isinstance(node.ctx, ast.Store):
+                    attributes.add(node.attr)
+        self.assertEqual(methods & attributes, set())
+
+    def test_no_two_files_import_from_each_other(self):
+        imported = {}
+        for path, tree in trees():
+            froms = [node.module for node in tree.body if isinstance(node, ast.ImportFrom)]
+            imported[path.stem] = [module.split(".")[1] for module in froms if module.startswith("weavepull.")]
+        for stem in imported:
+            reached = list(imported[stem])
+            for other in reached:
+                reached.extend(more for more in imported[other] if more not in reached)
+            self.assertNotIn(stem, reached)
 
 
 def defined(tree):
