@@ -15,6 +15,9 @@ INTERFACE = {
     "plain.py": ("plain",),
     "weaving.py": ("Run",),
     "needs.py": ("needs",),
+    "pushing.py": ("Push",),
+    "straight.py": ("straight",),
+    "notes.py": ("written", "read"),
 }
 
 METHODS = {
@@ -22,12 +25,24 @@ METHODS = {
         "__init__": ["self", "weave", "outs", "lists"], "pull": ["self", "j"], "let_go": ["self", "j"],
         "asked": ["self"], "gone": ["self"],
     },
+    ("pushing.py", "Push"): {
+        "__init__": ["self", "weave", "outs", "many"], "follows": ["self"], "give": ["self", "k", "item"],
+        "end": ["self", "k"], "let_go": ["self", "j"], "gone": ["self"],
+    },
+}
+
+ARGUMENTS = {
+    ("deeds.py", "all_done"): ["deeds", "item"], ("deeds.py", "all_hold"): ["tests", "number"],
+    ("deeds.py", "folded"): ["word", "one", "other"], ("lines.py", "looked"): ["weave", "many"],
+    ("plain.py", "plain"): ["weave", "lists"], ("needs.py", "needs"): ["weave", "outs", "counts", "lists"],
+    ("straight.py", "straight"): ["weave", "outs"], ("notes.py", "written"): ["weave"], ("notes.py", "read"): ["text"],
 }
 
 # Those of L8 that the package may need; an addition is looked up there first.
 BUILTINS = (
     "len", "range", "enumerate", "zip", "min", "max", "sum", "abs", "sorted", "reversed", "int", "str", "bool",
     "list", "tuple", "dict", "set", "isinstance", "any", "all", "divmod", "super", "ValueError", "KeyError",
+    "Exception",
 )
 
 # Names that L17 bars.
@@ -122,6 +137,13 @@ class LanguageTests(unittest.TestCase):
             found = {node.name: [arg.arg for arg in node.args.args] for node in made}
             for method, arguments in methods.items():
                 self.assertEqual(found.get(method), arguments, (word, method))
+
+    def test_arguments_of_functions(self):
+        for (name, word), arguments in ARGUMENTS.items():
+            tree = ast.parse((PACKAGE / name).read_text())
+            found = [[arg.arg for arg in node.args.args] for node in tree.body
+                     if isinstance(node, ast.FunctionDef) and node.name == word]
+            self.assertEqual(found, [arguments], word)
 
     def test_no_barred_names(self):
         for path, tree in trees():

@@ -83,9 +83,7 @@ class Outlets:
     """The places that a weave is pulled by from outside, None for one that was let go of."""
 
     def __init__(self, weave, outs, sources):
-        for out in outs:
-            if not 0 <= out < len(weave):
-                raise NoOutlet(f"{out} is no line's number")
+        outs_looked(weave, outs)
         walks = walks_of(weave, sources)
         self.outs = [Place(walks[out]) for out in outs]
         for walk in walks:
@@ -106,6 +104,13 @@ class Outlets:
         place = self.place(j)
         self.outs[j] = None
         place.leave()
+
+
+def outs_looked(weave, outs):
+    """Refuses a number among the outlets that is no line's."""
+    for out in outs:
+        if not 0 <= out < len(weave):
+            raise NoOutlet(f"{out} is no line's number")
 
 
 def walks_of(weave, sources):

@@ -1,6 +1,7 @@
 """Runs of a weave by pulling."""
 
 from weavepull.lines import looked
+from weavepull.sources import Sources
 from weavepull.walks import Outlets
 
 
@@ -9,7 +10,7 @@ class Run:
 
     def __init__(self, weave, outs, lists):
         looked(weave, len(lists))
-        self.sources = Sources(lists)
+        self.sources = ListedSources(lists)
         self.outlets = Outlets(weave, outs, self.sources)
 
     def pull(self, j):
@@ -29,19 +30,14 @@ class Run:
         return list(self.sources.left)
 
 
-class Sources:
+class ListedSources(Sources):
     """The sources of a run, each with a list of its numbers."""
 
     def __init__(self, lists):
+        super().__init__(len(lists))
         self.lists = [list(numbers) for numbers in lists]
         self.nexts = [0] * len(lists)
         self.asks = []
-        self.left = []
-
-    def leave_unnamed(self, by_lines):
-        """Lets go of the sources that no line names; all that are gone at the beginning are told rising."""
-        unnamed = [k for k in range(len(self.lists)) if k not in by_lines]
-        self.left = sorted(self.left + unnamed)
 
     def ask(self, k):
         """The next number of the source k, None at its end."""
@@ -51,7 +47,3 @@ class Sources:
             return None
         self.nexts[k] = at + 1
         return self.lists[k][at]
-
-    def leave(self, k):
-        """Lets go of the source k."""
-        self.left.append(k)
